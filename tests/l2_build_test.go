@@ -91,7 +91,7 @@ func copyTree(t impl.Tree) impl.Tree {
 	return out
 }
 
-// grower makes valid trees by chance, of every kind of node.
+// grower makes what tests ask about by chance, valid trees of every kind of node above all.
 type grower struct {
 	*rand.Rand
 }
