@@ -469,7 +469,11 @@ func TestFoldOfBothIsFoldOfEach(t *testing.T) {
 			for range g.IntN(6) {
 				b = vector(append(b.Data, pick(g, from...))...)
 			}
-			both, code := fold(op, vector(slices.Concat(a.Data, b.Data)...), g.IntN(2) == 0).answer(t)
+			joined, joinCode := catenate(a, b).answer(t)
+			if joinCode != 0 {
+				t.Fatalf("Catenate of %s and %s: code %d", arrayName(a), arrayName(b), joinCode)
+			}
+			both, code := fold(op, joined, g.IntN(2) == 0).answer(t)
 			left, leftCode := fold(op, a, false).answer(t)
 			right, rightCode := fold(op, b, false).answer(t)
 			if code != 0 || leftCode != 0 || rightCode != 0 {
