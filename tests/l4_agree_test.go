@@ -417,8 +417,13 @@ func TestScalarFunctionsAgreeByChance(t *testing.T) {
 			counts[[2]int{function, code}]++
 		}
 	}
-	// Each function came with each of its codes, and without one.
-	for function, codes := range [][]int{{0, impl.ErrDomain}, {0, impl.ErrDomain, impl.ErrRank, impl.ErrLength, impl.ErrLimit}, {0, impl.ErrDomain, impl.ErrLimit}, {0, impl.ErrDomain, impl.ErrLimit}, {0, impl.ErrDomain, impl.ErrLimit}, {0, impl.ErrDomain, impl.ErrLength, impl.ErrLimit}} {
+	wantEveryCode(t, counts, [][]int{{0, impl.ErrDomain}, {0, impl.ErrDomain, impl.ErrRank, impl.ErrLength, impl.ErrLimit}, {0, impl.ErrDomain, impl.ErrLimit}, {0, impl.ErrDomain, impl.ErrLimit}, {0, impl.ErrDomain, impl.ErrLimit}, {0, impl.ErrDomain, impl.ErrLength, impl.ErrLimit}})
+}
+
+// wantEveryCode asks that each function came with each of its codes, and without one.
+func wantEveryCode(t *testing.T, counts map[[2]int]int, codesOf [][]int) {
+	t.Helper()
+	for function, codes := range codesOf {
 		for _, code := range codes {
 			if counts[[2]int{function, code}] < 100 {
 				t.Errorf("function %d had the code %d only %d times", function, code, counts[[2]int{function, code}])
@@ -565,18 +570,25 @@ func TestOuterHasEachWithEach(t *testing.T) {
 	}
 }
 
+// matrices have a product.
+func (g grower) matrices() (impl.Array, impl.Array) {
+	rows, length, columns := g.IntN(6), g.IntN(6), g.IntN(6)
+	a, b := filled(false, rows, length), filled(false, length, columns)
+	for i := range a.Data {
+		a.Data[i] = g.IntN(20001) - 10000
+	}
+	for i := range b.Data {
+		b.Data[i] = g.IntN(20001) - 10000
+	}
+	return a, b
+}
+
 // TestInnerIsTheProductOfMatrices is the other half of promise 5; the product is reckoned a row of b at a time.
 func TestInnerIsTheProductOfMatrices(t *testing.T) {
 	g := grower{rand.New(rand.NewPCG(17, 2542))}
 	for range 3000 {
-		rows, length, columns := g.IntN(6), g.IntN(6), g.IntN(6)
-		a, b := filled(false, rows, length), filled(false, length, columns)
-		for i := range a.Data {
-			a.Data[i] = g.IntN(20001) - 10000
-		}
-		for i := range b.Data {
-			b.Data[i] = g.IntN(20001) - 10000
-		}
+		a, b := g.matrices()
+		rows, length, columns := a.Shape[0], a.Shape[1], b.Shape[1]
 		want := full(false, 0, rows, columns)
 		for k := range length {
 			for i := range rows {
